@@ -1,0 +1,1 @@
+"""Placetale: tales of places, things and rules, played and looked through."""

@@ -1,0 +1,28 @@
+"""What README.md shows is what the program tells."""
+
+import os
+import re
+import unittest
+
+ROOT = os.path.dirname(os.path.dirname(os.path.abspath(__file__)))
+
+
+class Readme(unittest.TestCase):
+    def test_its_rows_tell_what_they_say(self):
+        with open(os.path.join(ROOT, "README.md"), encoding="utf-8") as file:
+            blocks = re.findall(r"```python\n(.*?)```", file.read(), re.DOTALL)
+        names, looked_at = {}, 0
+        for block in blocks:
+            exec(block, names)
+            for row in block.splitlines():
+                told = re.match(r"(\S.*?\))\s+# ([\[(].*|False|True)\Z", row)
+                if told:
+                    looked_at += 1
+                    said = told.group(2).split(": ")[0]
+                    self.assertEqual(eval(told.group(1), names), eval(said), row)
+        self.assertEqual(len(blocks), 3)
+        self.assertEqual(looked_at, 6)
+
+
+if __name__ == "__main__":
+    unittest.main()
