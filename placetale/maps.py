@@ -30,12 +30,7 @@ class Map:
 
     def walk_to(self, number):
         """The deeds by which the state was numbered: a shortest walk."""
-        walk = []
-        while number != 0:
-            number, deed = self._came[number]
-            walk.append(deed)
-        walk.reverse()
-        return walk
+        return walk_back(self._came, number)
 
     def won(self):
         """The numbers of the states in which the wish is met, rising."""
@@ -59,3 +54,13 @@ class Map:
         self._numbers[state] = len(self._states)
         self._states.append(state)
         self._came.append(came)
+
+
+def walk_back(came, at):
+    """The deeds by which something was come to, where came tells for each what was ahead of it, and the deed."""
+    walk = []
+    while came[at] is not None:
+        at, deed = came[at]
+        walk.append(deed)
+    walk.reverse()
+    return walk

@@ -16,6 +16,10 @@ FUNCTIONS = {
         "begin": ["tale"], "deeds_at": ["tale", "state"], "done": ["tale", "state", "deed"],
         "is_won": ["tale", "state"], "played": ["tale", "deeds"],
     },
+    "walks": {"shortest": ["tale"], "walkthroughs": ["tale", "most"]},
+    "ends": {"dead": ["tale"], "spoils": ["tale"], "barred": ["tale"], "needful": ["tale"]},
+    "likeness": {"parted": ["one", "other"]},
+    "texts": {"written": ["tale"], "read": ["text"]},
 }
 CLASSES = {
     "errors": {"TaleError": {}, "BadTale": {}, "BadText": {}, "NoDeed": {}, "TooMany": {}},
